@@ -1,0 +1,1 @@
+"""Farbuilds: builds sent far, run by rule, stopped, gone back from."""

@@ -1,0 +1,43 @@
+"""What the tests share: things of any kind, and a look whether a call changes what it is handed."""
+
+import copy
+
+
+def nested(wrap, depth):
+    """A thing within as many others as depth says."""
+    thing = "a"
+    for times in range(depth):
+        thing = wrap(thing)
+    return thing
+
+
+def things():
+    """Things of any kind, none of which is a build, a row, steps but (), a paper, marks."""
+    return [
+        None, True, False, 0, 1, -1, 60, 10 ** 59, 10 ** 60 - 1, -(10 ** 60 - 1),
+        "", "a", "abc", "=a", "=", " ", "\n", "old", "new", "A1 ~\n",
+        (), (None,), (True,), (0,), ("a",), ("a", "b"), (("a",),), ((), ()), (((),),),
+        [], [None], [True], [0], ["=a"], [("a", ())], [[]],
+        {}, {"a": 1}, {0: ()}, {("a", ()): None},
+        ([],), ({},), ("=a", []), ("=a", None), (("a", []),), (("old", 0),), (["old", 0, 1],), (("a", {}), 3),
+        nested(lambda thing: (thing,), 12), nested(lambda thing: [thing], 12),
+        nested(lambda thing: {"a": thing}, 12), nested(lambda thing: ([thing], {0: thing}), 6),
+    ]
+
+
+def refusal(error, call, *handed):
+    """The refusal by which a call ends; None where it doesn't."""
+    try:
+        call(*handed)
+    except error as refused:
+        return refused
+    return None
+
+
+def unchanged(call, *handed, **named):
+    """What a call tells, where what it is handed stays as it was."""
+    before = copy.deepcopy((handed, named))
+    told = call(*handed, **named)
+    if repr(before) != repr((handed, named)):
+        raise AssertionError(f"changed: {before!r} to {(handed, named)!r}")
+    return told
