@@ -41,3 +41,18 @@ def unchanged(call, *handed, **named):
     if repr(before) != repr((handed, named)):
         raise AssertionError(f"changed: {before!r} to {(handed, named)!r}")
     return told
+
+
+def single_steps(old, row, place):
+    """All single steps that write the row's items from a place on, with where each ends: tried one by one."""
+    found = []
+    for end in range(place + 1, len(row) + 1):
+        many = end - place
+        found.append((("new", row[place:end]), end))
+        for at in range(len(old)):
+            if old[at:at + many] == row[place:end]:
+                found.append((("old", at, many), end))
+        for at in range(place):
+            if all(row[at + k] == row[place + k] for k in range(many)):
+                found.append((("own", at, many), end))
+    return found
