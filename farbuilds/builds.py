@@ -1,8 +1,8 @@
 """Builds, their rows of items, and the tags of rows."""
 
 from farbuilds.errors import NoBuild
-from farbuilds.sums import sum_of
-from farbuilds.words import MOST_ITEMS, are_items, are_rising, is_word
+from farbuilds.sums import MODULUS, sum_of
+from farbuilds.words import MOST_ITEMS, are_items, are_rising, is_between, is_word
 
 MOST_FILES = 6
 MOST_WORDS = 40
@@ -62,3 +62,11 @@ def files_of(row):
 def tag_of(name, row):
     """Tell the tag of a row by a name."""
     return name, len(row), sum_of(row)
+
+
+def is_tag(thing):
+    """Tell of anything whether it is a tag."""
+    if not isinstance(thing, tuple) or len(thing) != 3:
+        return False
+    name, size, total = thing
+    return is_word(name) and is_between(size, 1, MOST_ITEMS) and is_between(total, 0, MODULUS - 1)

@@ -3,11 +3,22 @@
 LETTERS = "abcdefghijklmnopqrstuvwxyz"
 MOST_SIGNS = 8
 MOST_ITEMS = 60
+LAST_MOMENT = 10 ** 9
 
 
 def is_number(thing):
     """Tell of anything whether it is a whole number."""
     return isinstance(thing, int) and not isinstance(thing, bool)
+
+
+def is_between(thing, low, high):
+    """Tell of anything whether it is a whole number from low to high."""
+    return is_number(thing) and low <= thing <= high
+
+
+def is_moment(thing):
+    """Tell of anything whether it is a moment."""
+    return is_between(thing, 0, LAST_MOMENT)
 
 
 def is_word(thing):

@@ -25,6 +25,33 @@ def things():
     ]
 
 
+def changed_once(thing, others):
+    """Things like this one but for one part, at any depth, in whose place one of its others stands."""
+    found = list(others(thing))
+    if isinstance(thing, tuple):
+        for at, part in enumerate(thing):
+            found.extend(thing[:at] + (other,) + thing[at + 1:] for other in changed_once(part, others))
+    return found
+
+
+def as_list(thing):
+    """A list in the place of a tuple."""
+    return [list(thing)] if isinstance(thing, tuple) else []
+
+
+def more_or_fewer(thing):
+    """A tuple with a part more or fewer, at the end and at the beginning."""
+    if not isinstance(thing, tuple):
+        return []
+    return [thing + (None,), (None,) + thing] + ([thing[:-1], thing[1:]] if thing else [])
+
+
+def of_another_kind(thing):
+    """Things of other kinds, which nothing has in the place of a part but by fault."""
+    others = [None, True, False, -1, 10 ** 59, "", "A", "toolongaword", (), [], {}, ((),), [thing], {"a": thing}]
+    return [other for other in others if repr(other) != repr(thing)]
+
+
 def refusal(error, call, *handed):
     """The refusal by which a call ends; None where it doesn't."""
     try:
