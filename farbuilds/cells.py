@@ -6,6 +6,10 @@ items). They never change: a write tells new ones. A write is a tuple ("mark",
 charter, list, boot), ("tag", room, tag) or ("item", room, item).
 """
 
+from farbuilds.sums import sum_of
+
+MOST_TRIES = 2
+
 
 def first_cells(charter, tag, row):
     """Tell the cells of a machine as it is made, with a charter and a row by its tag."""
@@ -71,3 +75,14 @@ def tear_write(cells, write):
 def replaced(pair, place, worth):
     """Tell a tuple of two with another one at a place."""
     return (worth, pair[1]) if place == 0 else (pair[0], worth)
+
+
+def running_room(boot):
+    """Tell which room runs by boot; where it isn't boot's own, what runs is on trial."""
+    room, number, end, tries, failed = boot
+    return room if end is None or tries == MOST_TRIES else 1 - room
+
+
+def is_whole(tag, row):
+    """Tell whether items are as many, and of the sum, as a tag tells."""
+    return len(row) == tag[1] and sum_of(row) == tag[2]
