@@ -4,6 +4,7 @@ Given is a list of tuples (letter, moment): letters as a machine takes them,
 each with the moment from which on it was given.
 """
 
+from farbuilds.builds import is_tag
 from farbuilds.errors import NoWay
 from farbuilds.ways import Search
 from farbuilds.words import LAST_MOMENT
@@ -14,10 +15,11 @@ def told_cells(report, charters, lists, rows):
 
     Charters and lists are dicts by their numbers, rows a dict by their tags; a
     room has the first items of its tag's row, and none where the tag is strange.
+    A strange charter is one without holders, which lets nothing.
     """
     kind, body, mark = report
     name, writes, moment, charter, listing, boot, rooms = body
-    first = (1, charters[charter], lists.get(listing), boot)
+    first = (1, charters.get(charter, (charter, (), (1, 1, 1))), lists.get(listing), boot)
     held = tuple([(tag, rows.get(tag, ())[:many]) for tag, many, total in rooms])
     return writes, (first, None), held
 
@@ -42,6 +44,7 @@ def can_ever(name, facts, cells, since, given):
 def way_to(name, facts, cells, since, given, tag, moment):
     """Tell a history to a moment behind which a machine runs a tag; NoWay where there is none, of anything."""
     search = searched(name, facts, cells, since, given, moment)
-    if tag not in list(search.found):
+    # By form first, as a truth in a tag would be taken for a number.
+    if not is_tag(tag) or tag not in search.found:
         raise NoWay(tag)
     return search.history(tag)

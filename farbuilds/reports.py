@@ -1,4 +1,4 @@
-"""Reports of machines: how one is made, what is one by form, and what ran."""
+"""Reports of machines: how one is made, what is one by form, and what it tells."""
 
 from farbuilds.builds import is_tag
 from farbuilds.cells import MOST_TRIES, running_room, standing
@@ -71,3 +71,39 @@ def ran_tag(report):
     kind, body, mark = report
     boot, rooms = body[5:]
     return rooms[running_room(boot)][0]
+
+
+def boot_of(report):
+    """Tell the boot of which a report tells."""
+    return report[1][5]
+
+
+def well_tag(report):
+    """Tell the tag of what ran last well, by a report; None where something is on trial."""
+    room, number, end, tries, failed = boot_of(report)
+    return report[1][6][room][0] if end is None else None
+
+
+def failed_tags(report):
+    """Tell the tags of what failed, by a report."""
+    return boot_of(report)[4]
+
+
+def other_room(report):
+    """Tell, by a report, (tag, how many items, their sum) of the room beside that which ran last well."""
+    return report[1][6][1 - boot_of(report)[0]]
+
+
+def charter_number(report):
+    """Tell the number of the charter of which a report tells."""
+    return report[1][3]
+
+
+def list_number(report):
+    """Tell the number of the list of which a report tells, 0 of none."""
+    return report[1][4]
+
+
+def moment_of(report):
+    """Tell the moment at which a report was told."""
+    return report[1][2]

@@ -1,6 +1,20 @@
 """Sums of things: numbers from 0 to 996, unlike things may have one sum."""
 
+from farbuilds.words import is_number
+
 MODULUS = 997
+
+
+def has_sum(thing):
+    """Tell of anything whether it is made of None, whole numbers, texts and tuples of these."""
+    waiting = [thing]
+    while waiting:
+        part = waiting.pop()
+        if isinstance(part, tuple):
+            waiting.extend(part)
+        elif part is not None and not isinstance(part, str) and not is_number(part):
+            return False
+    return True
 
 
 def sum_of(thing):

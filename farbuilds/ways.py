@@ -82,7 +82,7 @@ class Search:
     def tell(self, content, stand, deeds):
         """Keep that a content can run behind a stand and deeds."""
         tag = self.contents[content][0]
-        if tag not in self.found:
+        if tag is not None and tag not in self.found:
             self.found[tag] = (stand, deeds)
 
     def put(self, stand):

@@ -1,7 +1,5 @@
 """What the tests share: things of any kind, and a look whether a call changes what it is handed."""
 
-import copy
-
 
 def nested(wrap, depth):
     """A thing within as many others as depth says."""
@@ -61,12 +59,32 @@ def refusal(error, call, *handed):
     return None
 
 
+def shown(thing):
+    """A thing as a text that tells all of it, of objects what they keep."""
+    if isinstance(thing, (list, tuple)):
+        return f"{type(thing).__name__}({', '.join(map(shown, thing))})"
+    if isinstance(thing, dict):
+        return "{" + ", ".join(f"{shown(key)}: {shown(part)}" for key, part in thing.items()) + "}"
+    if hasattr(thing, "__dict__") and not callable(thing):
+        return f"{type(thing).__name__}{shown(vars(thing))}"
+    return repr(thing)
+
+
 def unchanged(call, *handed, **named):
     """What a call tells, where what it is handed stays as it was."""
-    before = copy.deepcopy((handed, named))
+    before = shown((handed, named))
     told = call(*handed, **named)
-    if repr(before) != repr((handed, named)):
-        raise AssertionError(f"changed: {before!r} to {(handed, named)!r}")
+    if before != shown((handed, named)):
+        raise AssertionError(f"changed: {before} to {shown((handed, named))}")
+    return told
+
+
+def asked(call, *handed, **named):
+    """What a method tells that does nothing: its object, too, stays as it was."""
+    before = shown(call.__self__)
+    told = unchanged(call, *handed, **named)
+    if before != shown(call.__self__):
+        raise AssertionError(f"changed: {before} to {shown(call.__self__)}")
     return told
 
 

@@ -15,6 +15,9 @@ BUILDS = {
 }
 ROWS = {name: row_of(build) for name, build in BUILDS.items()}
 TAGS = {name: tag_of(name, row) for name, row in ROWS.items()}
+SMALL = {"app": (("f", ()),), "web": (("f", ("x",)),), "new": (("f", ()), ("g", ())), "old": (("f", ("x", "y")),)}
+SMALL_ROWS = {name: row_of(build) for name, build in SMALL.items()}
+SMALL_TAGS = {name: tag_of(name, row) for name, row in SMALL_ROWS.items()}
 ANY = ("all",)
 KEY = 9
 

@@ -4,7 +4,6 @@ import copy
 import random
 import unittest
 
-from farbuilds.builds import row_of, tag_of
 from farbuilds.errors import NoWay
 from farbuilds.known import can_ever, can_run, told_cells, way_to
 from farbuilds.least import least
@@ -12,8 +11,8 @@ from farbuilds.machine import Machine, opened
 from tests.helpers import refusal, things, unchanged
 from tests.histories import all_that_can_run, is_history, played
 from tests.makers import (
-    ANY, BUILDS, CHARTER, FACTS, HOLDERS, KEY, ROWS, TAGS, charter_letter, held, items_letter, list_letter, listed, made, marks_by,
-    permit_letter, standing_so, trial,
+    ANY, BUILDS, CHARTER, FACTS, HOLDERS, KEY, ROWS, SMALL, SMALL_ROWS, SMALL_TAGS, TAGS, charter_letter, held, items_letter,
+    list_letter, listed, made, marks_by, permit_letter, standing_so, trial,
 )
 
 LAST = 10 ** 9
@@ -284,6 +283,13 @@ class Cases(unittest.TestCase):
             error = refusal(NoWay, way_to, "far", FACTS, machine.cells(), 0, [], thing, 5)
             self.assertEqual(repr(error.tag), repr(thing))
 
+    def test_no_way_of_a_tag_with_a_truth_in_it(self):
+        name, size, total = TAGS["new"]
+        self.assertEqual(size, 1)
+        machine = made(title="new")
+        self.assertEqual(way_to("far", FACTS, machine.cells(), 0, [], TAGS["new"], 5), [])
+        self.assertIs(refusal(NoWay, way_to, "far", FACTS, machine.cells(), 0, [], (name, True, total), 5).tag[1], True)
+
     def test_lists_are_the_askers_own(self):
         given = [(list_letter(1), 0), (items_letter("web", "app"), 0), (permit_letter(1, "web", 50), 0)]
         for ask in (
@@ -312,16 +318,18 @@ class Reported(unittest.TestCase):
             self.assertEqual(other.start(7), machine.start(7))
             self.assertEqual(other.report(9), machine.report(9))
 
+    def test_a_strange_charter_lets_nothing(self):
+        machine = made()
+        cells = told_cells(machine.report(5), {}, {}, {TAGS["app"]: ROWS["app"]})
+        self.assertEqual(opened("far", KEY, FACTS, cells).charter()[:2], (3, ()))
+        given = [(charter_letter(4), 0), (list_letter(1), 0), (items_letter("web", "app"), 0), (permit_letter(1, "web"), 0)]
+        self.assertEqual(can_ever("far", FACTS, cells, 5, given), [TAGS["app"]])
+
     def test_a_room_with_a_strange_tag(self):
         machine = made()
         machine.take(items_letter("web", "app"), 0)
         cells = told_cells(machine.report(5), {3: CHARTER}, {}, {TAGS["app"]: ROWS["app"]})
         self.assertEqual(cells[2], (held("app"), (TAGS["web"], ())))
-
-
-SMALL = {"app": (("f", ()),), "web": (("f", ("x",)),), "new": (("f", ()), ("g", ())), "old": (("f", ("x", "y")),)}
-SMALL_ROWS = {name: row_of(build) for name, build in SMALL.items()}
-SMALL_TAGS = {name: tag_of(name, row) for name, row in SMALL_ROWS.items()}
 
 
 class Drawn(unittest.TestCase):
