@@ -2,8 +2,6 @@
 
 from farbuilds.reports import moment_of, well_tag
 
-NO_CHARTER = 0
-
 
 class Far:
     """A machine as a house knows it; front is the name of the one that it stands behind, or None.
@@ -23,7 +21,7 @@ class Far:
         self.well_since = moment_of(heard)
         self.given = []
         self.permit = None
-        self.permit_charter = NO_CHARTER
+        self.permit_charter = None
 
     def is_news(self, told):
         """Tell whether a report is later than the one heard last."""

@@ -214,7 +214,8 @@ class House:
 
     def serves_still(self, far, name, moment):
         """Tell whether the permit given last to a machine is told again."""
-        if far.permit is None or far.permit_charter != self.last_charter()[0]:
+        # Without a permit there is no charter by then either.
+        if far.permit_charter != self.last_charter()[0]:
             return False
         number, machine, title, end = far.permit[1]
         return title == name and end >= moment and number > boot_of(far.heard)[1]

@@ -36,16 +36,16 @@ def is_begun(head, other, paper):
         return False
     way = way_to_few(few, count)
     end, rest = ends_apart(root, paper, way)
-    if end is None or len(rest) != len(way):
+    if len(rest) != len(way):
         return False
     return roots_up(end, rest, way)[-1] == whole and few_roots_up(end, rest, way)[-1] == root
 
 
 def ends_apart(root, paper, way):
-    """Tell what both logs have at the end of a way down, by a paper, and the rest of it; None where it lacks."""
+    """Tell what both logs have at the end of a way down, by a paper, and the rest of it, none where it lacks."""
     if True not in way:
         return root, paper
-    return (paper[0], paper[1:]) if paper else (None, [])
+    return (paper[0], paper[1:]) if paper else (root, [])
 
 
 def few_roots_up(root, paper, way):

@@ -352,6 +352,13 @@ class Hear(unittest.TestCase):
         for moment, word in ((9, "old"), (10, "old"), (11, "taken"), (11, "old"), (10, "old"), (20, "taken"), (19, "old")):
             self.assertEqual(self.heard(house, machine.report(moment), 30), word)
 
+    def test_of_the_same_writes_and_moment_nothing_else_counts(self):
+        house = shelved()
+        kind, body, mark = join(house, moment=10).report(10)
+        for place, other in ((3, 4), (4, 1), (5, (1, 9, None, 0, ()))):
+            changed = body[:place] + (other,) + body[place + 1:]
+            self.assertEqual(self.heard(house, (kind, changed, mark_of(KEY, changed))), "old")
+
     def test_by_writes_ahead_of_moments(self):
         house = shelved()
         machine = join(house, moment=10)

@@ -2,6 +2,7 @@
 
 import ast
 import builtins
+import functools
 import io
 import pathlib
 import re
@@ -38,10 +39,12 @@ BARRED_NODES = (
 )
 
 
+@functools.cache
 def sources():
     return {path.stem: path.read_text(encoding="ascii") for path in sorted(FOLDER.glob("*.py"))}
 
 
+@functools.cache
 def trees():
     return {name: ast.parse(source) for name, source in sources().items()}
 

@@ -221,6 +221,9 @@ class Lookers(unittest.TestCase):
             self.assertEqual(log.paper(0), [worth])
             self.assertIs(is_in(log.head(), 0, "b", [worth == 1]), False)
             self.assertIs(is_in(log.head(), 0, "b", [worth]), True)
+            # By what it sums up to it would come out, but it is no sum.
+            self.assertIs(is_in(log.head(), 0, "b", [worth + 997]), False)
+            self.assertIs(is_begun(log.head(count=1), log.head(), [worth + 997]), False)
             self.assertIs(is_begun(log.head(count=1), log.head(), [worth]), True)
             self.assertIs(is_begun(log.head(count=1), log.head(), [worth == 1]), False)
 

@@ -160,6 +160,12 @@ class Items(unittest.TestCase):
     def test_more_items_than_its_size(self):
         row = ROWS["web"]
         self.right_items(self.told((held("app"), (TAGS["web"], row + ("z",)))), "web", "app", 0)
+        # Also of the whole row's sum.
+        last = next(
+            "".join(parts) for parts in itertools.product("abcdefghijklmnopqrstuvwxyz", repeat=3)
+            if sum_of(row + ("".join(parts),)) == sum_of(row)
+        )
+        self.right_items(self.told((held("app"), (TAGS["web"], row + (last,)))), "web", "app", 0)
 
     def test_a_room_that_is_whole(self):
         for base, name in itertools.permutations(BUILDS, 2):
