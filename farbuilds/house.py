@@ -232,11 +232,10 @@ class House:
 
     def grades_about(self, far):
         """Tell two lists of grades: what those behind a machine can ever run, and what the one ahead of it can."""
-        lows = []
-        for other in self.fars.values():
-            if other.front == far.name:
-                lows.extend(self.grades_ever(other))
-        return lows, [] if far.front is None else self.grades_ever(self.fars[far.front])
+        backs = [other for other in self.fars.values() if other.front == far.name]
+        lows = [grade for other in backs for grade in self.grades_ever(other)]
+        highs = [] if far.front is None else self.grades_ever(self.fars[far.front])
+        return lows, highs
 
     def keeps_order(self, far, given, lows, highs):
         """Tell whether a machine, these letters given, can ever run nothing below the lows or above the highs."""
