@@ -2,7 +2,7 @@
 
 from farbuilds.builds import is_file, is_tag
 from farbuilds.charters import MOST_GRADE, MOST_HOLDERS, MOST_NUMBER, is_holder
-from farbuilds.rules import MOST_WITHIN, is_formed
+from farbuilds.rules import MOST_WITHIN, is_rule
 from farbuilds.steps import is_step
 from farbuilds.words import LAST_MOMENT, is_between
 
@@ -47,14 +47,14 @@ def step_in(row):
 
 
 def rule_in(row):
-    """Tell the rule of a row, however many plain ones it has."""
+    """Tell the rule of a row."""
     return rule_of(row.split(" "))
 
 
 def rule_of(words):
-    """Tell the rule that words are written of, all of them, however many plain ones it has."""
+    """Tell the rule that words are written of, all of them."""
     rule, end = rule_at(words, 0, MOST_WITHIN)
-    return rule if end == len(words) and is_formed(rule, MOST_WITHIN) else None
+    return rule if end == len(words) and is_rule(rule) else None
 
 
 def rule_at(words, at, within):
@@ -92,7 +92,7 @@ def holder_in(row):
 
 
 def entry_in(row):
-    """Tell the entry of a row, however many plain ones its rule has."""
+    """Tell the entry of a row."""
     word, *rest = row.split(" ")
     if word != "entry" or len(rest) < 5:
         return None

@@ -4,7 +4,6 @@ from farbuilds.builds import is_build
 from farbuilds.charters import is_charter, is_list
 from farbuilds.errors import NoText
 from farbuilds.readings import charter_in, entry_in, file_in, holder_in, list_in, rule_in, step_in
-from farbuilds.rules import is_rule
 
 
 def show_build(build):
@@ -60,8 +59,8 @@ def whole_build(parts):
 
 
 def whole_rule(parts):
-    """Tell the rule, which is one row; None where it isn't, or has too many plain ones."""
-    return parts[0] if len(parts) == 1 and is_rule(parts[0]) else None
+    """Tell the rule, which is one row; None where there are more."""
+    return parts[0] if len(parts) == 1 else None
 
 
 def whole_charter(parts):

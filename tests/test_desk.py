@@ -221,6 +221,7 @@ class Order(Checked):
             ("build app 1\n", 0), ("build app 1\nfile a\nfile", 1), ("build more 1\nfile b\nfile a", 2), ("charter\n", 0), ("charter\ncharter 9 1 1 1", 1),
             ("charter\ncharter 4 1 1 1\nholder a 0", 1), ("list\n", 0), ("list\nlist 1", 0), ("list\nlist 1 100\n", 1), ("list\nlist 9 9\nentry app 4 26 1 all", 1),
             ("build more 1\nfile a\n", 1), ("charter\n" + show_list(graded(2)), 0),
+            ("list\nlist 9 9\nentry app 4 26 1 all" + " all is a 1 is a 2 is a 3 end" * 3 + " end\nentry web 1 1 1 all end", 1),
         ):
             self.refused(desk, NoText, row, "row", at)
 

@@ -1,5 +1,6 @@
 """Point 36: builds, steps, rules, charters and lists written and read back, and what is refused."""
 
+import itertools
 import random
 import unittest
 
@@ -109,6 +110,17 @@ def rule_within(draw, within):
     if kind == "not":
         return ("not", rule_within(draw, within - 1))
     return (kind,) + tuple(rule_within(draw, within - 1) for nth in range(draw.randrange(4) if within > 1 else 0))
+
+
+def wide_rule(draw, counts):
+    """An all or any, for each count, of as many plain ones, some of them denied."""
+    def plain():
+        rule = draw.choice((("is", a_word(draw), 3), ("least", a_word(draw), 0), ("most", a_word(draw), 999), ("all",), ("any",)))
+        return draw.choice((rule, ("not", rule)))
+
+    return (draw.choice(("all", "any")),) + tuple(
+        (draw.choice(("all", "any")),) + tuple(plain() for nth in range(count)) for count in counts
+    )
 
 
 def a_charter(draw):
@@ -239,16 +251,48 @@ class Refused(unittest.TestCase):
             self.refused("rule", row, 0)
         self.assertEqual(read("rule", "all any all any end end end end"), ("all", ("any", ("all", ("any",)))))
 
-    def test_rules_as_a_whole(self):
-        # Nine plain ones are too many in all, each of them being good.
-        nine = [
-            "all any" + " is a 1" * 4 + " end any" + " is a 1" * 4 + " end any end end",
-            "all all" + " is a 1" * 4 + " end all" + " is b 1" * 4 + " end not least c 3 end",
-            "any" + (" all" + " all end" * 3 + " end") * 3 + " end",
+    def test_rules_of_more_than_eight(self):
+        # Each part is good, but with more than eight plain ones in all the row, looked at alone, is no rule.
+        four = " is a 1" * 4
+        eight = [
+            f"all any{four} end any{four} end end",
+            f"not all all{four} end any{four} end end",
+            "any" + (" all" + " all end" * 4 + " end") * 2 + " end",
         ]
+        nine = [
+            f"all any{four} end any{four} end any end end",
+            f"all all{four} end all{four} end not least c 3 end",
+            f"not any all{four} end any{four} end all end end",
+            "any" + (" all" + " all end" * 3 + " end") * 3 + " end",
+            "all" + f" any{four} end" * 4 + " end",
+        ]
+        for text in eight:
+            self.assertEqual(show_rule(read("rule", text)), text)
+            self.refused("rule", text + "\n" + text, 2)
+            self.assertEqual(show_list(read("list", "list 1 2\nentry a 1 1 1 " + text)), "list 1 2\nentry a 1 1 1 " + text)
         for text in nine:
-            self.refused("rule", text, 1)
-            self.refused("list", "list 1 2\nentry a 1 1 1 " + text + "\nentry b 1 1 1 all end", 3)
+            self.refused("rule", text, 0)
+            self.rows_refused("rule", ["all end", eight[0]], [text])
+            self.rows_refused("list", ["list 1 2", "entry b 1 1 1 all end", "entry c 1 1 1 " + eight[0]], ["entry a 1 1 1 " + text])
+            # The first bad row goes, whichever way each is bad.
+            self.refused("list", "list 1 2\nentry a 1 1 1\nentry b 1 1 1 " + text, 1)
+            self.refused("list", "list 0 2\nentry a 1 1 1 " + text, 0)
+            self.refused("list", "list 1 2\nentry b 1 1 1 all end\nentry a 1 1 1 " + text, 2)
+
+    def test_drawn_wide_rules(self):
+        # Counted as they are made: a row is refused alone just where its rule has more than eight plain ones.
+        draw = random.Random(36)
+        for counts in [counts for many in range(1, 5) for counts in itertools.product(range(1, 5), repeat=many)]:
+            rule = wide_rule(draw, counts)
+            text = show_rule(rule)
+            if sum(counts) <= 8:
+                self.assertEqual(read("rule", text), rule)
+                self.assertEqual(read("list", "list 1 2\nentry a 1 1 1 " + text), (1, 2, (("a", 1, 1, 1, rule),)))
+            else:
+                self.refused("rule", text, 0)
+                self.refused("list", "list 1 2\nentry a 1 1 1 " + text, 1)
+
+    def test_rules_as_a_whole(self):
         # A rule is one row.
         self.refused("rule", "all end\nany end", 2)
         self.refused("rule", "all end\nany end\nis a", 2)
